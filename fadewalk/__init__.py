@@ -1,0 +1,1 @@
+"""Fadewalk: how soon walks forget their start."""
