@@ -6,11 +6,37 @@ from fadewalk.numbers import greatest_divider, is_whole
 MOST_PLACES = 25
 
 
+def are_weights(thing, many):
+    """Tell whether a thing is a tuple of so many whole numbers from 0 on."""
+    if not isinstance(thing, tuple) or len(thing) != many:
+        return False
+    return all([is_whole(weight) and weight >= 0 for weight in thing])
+
+
+def are_rows(thing, many):
+    """Tell whether a thing is a tuple of so many rows, each of so many weights."""
+    if not isinstance(thing, tuple) or len(thing) != many:
+        return False
+    return all([are_weights(row, many) for row in thing])
+
+
+def is_place(thing, many):
+    """Tell whether a thing is a place where there are so many."""
+    return is_whole(thing) and 0 <= thing < many
+
+
+def are_rising_places(thing, many):
+    """Tell whether a thing is a rising tuple of places, be it empty, where there are so many."""
+    if not isinstance(thing, tuple) or not all([is_place(place, many) for place in thing]):
+        return False
+    return all([thing[at - 1] < thing[at] for at in range(1, len(thing))])
+
+
 def is_lot(thing):
     """Tell whether a thing is a lot."""
     if not isinstance(thing, tuple) or not 1 <= len(thing) <= MOST_PLACES:
         return False
-    return all([is_whole(weight) and weight >= 0 for weight in thing]) and any(thing)
+    return are_weights(thing, len(thing)) and any(thing)
 
 
 def refuse_no_lot(thing):

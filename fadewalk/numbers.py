@@ -16,6 +16,11 @@ def greatest_divider(one, other):
     return one
 
 
+def least_multiple(one, other):
+    """Tell the least number from 1 on that both, which are from 1 on, divide."""
+    return one // greatest_divider(one, other) * other
+
+
 def is_fraction(thing):
     """Tell whether a thing is a fraction, plain or not."""
     if not isinstance(thing, tuple) or len(thing) != 2:

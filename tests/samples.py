@@ -1,5 +1,22 @@
 """Things of many kinds that tests hand in; not a test itself."""
 
+import random
+import unittest
+
+from fadewalk.walks import Walk
+
+GREAT = 999999999999
+
+
+class Refusals(unittest.TestCase):
+    """What tests of refusals stand under."""
+
+    def assert_refused(self, kind, deed, *things, **named):
+        with self.assertRaises(kind) as taken:
+            deed(*things, **named)
+        self.assertIs(type(taken.exception), kind)
+        return taken.exception
+
 
 def deep_list(depth):
     """A list within a list, so many deep."""
@@ -21,3 +38,103 @@ def no_tuples():
 def no_numbers():
     """Things that are no whole number, made anew for each asker."""
     return [None, True, False, "", "1", "12", [], [1], (), (1,), (1, 2), {}, {1: 1}, deep_list(11)]
+
+
+def no_steps():
+    """Things that are no steps, made anew for each asker."""
+    return no_numbers() + [-1, 101, -GREAT, GREAT]
+
+
+def no_places(many):
+    """Things that are no place where there are so many, made anew for each asker."""
+    return no_numbers() + [-1, many, many + 1, -many, -GREAT, GREAT]
+
+
+def no_bounds():
+    """Things that are no bound, made anew for each asker."""
+    things = no_tuples() + [(), (1,), (0, 1, 2), (0, 0), (1, 0), (0, -1), (-1, 2), (-1, GREAT), (1, 1), (5, 5), (3, 2)]
+    things += [(GREAT, GREAT), (GREAT, GREAT - 1), (-1, -2), ((0, 1), 2), (False, 1), (0, True)]
+    return things + [(thing, 2) for thing in no_numbers()] + [(0, thing) for thing in no_numbers()]
+
+
+def other_things(thing):
+    """Things of other kinds in place of one, or that lie near it."""
+    if isinstance(thing, bool) or thing is None or isinstance(thing, str):
+        return [0, 1, (), "", "yes", None, True, False]
+    if isinstance(thing, int):
+        return [thing + 1, thing - 1, -thing, 0, thing * 2, bool(thing), None, str(thing), (thing,), [thing]]
+    return [None, 0, (), [], "", list(thing), dict(enumerate(thing)), (thing,), thing[::-1], thing + (0,), (0,) + thing]
+
+
+def otherwise(thing):
+    """The thing with one part otherwise, at any depth: of other worth or kind, left out, twice, put in, moved."""
+    found = other_things(thing)
+    if isinstance(thing, tuple):
+        for at, part in enumerate(thing):
+            found += [thing[:at] + thing[at + 1:], thing[:at] + (part, part) + thing[at + 1:], thing[at:] + thing[:at]]
+            found += [thing[:at] + (other,) + thing[at + 1:] for other in otherwise(part)]
+    return [other for other in found if repr(other) != repr(thing)]
+
+
+def row_of(chooser, many, whole, most):
+    """A row of so many weights that sum to whole, at most so many of them above 0."""
+    row = [0] * many
+    places = chooser.sample(range(many), chooser.randint(1, min(many, most)))
+    for at in range(whole):
+        row[chooser.choice(places)] += 1
+    return tuple(row)
+
+
+def walks_of(many, how_often, most=3, whole=6, seed=1):
+    """Walks of so many places, the same for each asker, each place with a few next ones at most."""
+    chooser = random.Random(f"{many} {most} {whole} {seed}")
+    return [
+        Walk(tuple(row_of(chooser, many, whole, most) for place in range(many))) for time in range(how_often)
+    ]
+
+
+def ring(many):
+    """The walk that goes round so many places."""
+    return Walk(tuple(tuple(int(y == (x + 1) % many) for y in range(many)) for x in range(many)))
+
+
+def slow_ring(many):
+    """A ring in which the last place leads to the first and the second: no walk of so many places forgets later."""
+    rows = [[2 * int(y == (x + 1) % many) for y in range(many)] for x in range(many)]
+    rows[-1][0] = rows[-1][1] = 1
+    return Walk(tuple(tuple(row) for row in rows))
+
+
+def few_places():
+    """Walks of one to six places, of many shapes."""
+    walks = [Walk(((1,),)), Walk(((7,),)), Walk(((1, 1), (0, 2))), Walk(((2, 0), (0, 2))), Walk(((0, 3), (3, 0)))]
+    walks += [Walk(((1, 2), (1, 2))), Walk(((GREAT, 1), (2, GREAT - 1))), Walk(((0, 1, 0), (0, 0, 1), (0, 0, 1)))]
+    walks += [ring(many) for many in range(2, 7)] + [slow_ring(many) for many in range(3, 7)]
+    for many in range(2, 7):
+        for most in (1, 2, 3, 6):
+            walks += walks_of(many, 5, most=most)
+    return walks
+
+
+def great_walks():
+    """Walks of 25 places."""
+    stays = Walk(tuple(tuple(int(x == y) for y in range(25)) for x in range(25)))
+    walks = [Walk(((4,) * 25,) * 25), ring(25), slow_ring(25), stays]
+    return walks + walks_of(25, 2, most=2) + walks_of(25, 1, most=25, whole=300)
+
+
+def next_of(walk, place):
+    """The places to which a step leads, in order."""
+    return [other for other in range(len(walk.rows)) if walk.rows[place][other] > 0]
+
+
+def is_number(thing, low=0, high=None):
+    """Whether a thing is an int and no truth, from low on and less than high."""
+    return type(thing) is int and thing >= low and (high is None or thing < high)
+
+
+def is_rising(thing, many):
+    """Whether a thing is a rising tuple of places where there are so many."""
+    if type(thing) is not tuple or not all(is_number(part, 0, many) for part in thing):
+        return False
+    return list(thing) == sorted(set(thing))

@@ -22,17 +22,27 @@ BARRED_FORMS = (
     ast.GeneratorExp, ast.NamedExpr, ast.Div, ast.Import,
 )
 UNDERSCORED = {"__init__", "__eq__", "__repr__", "__str__", "__len__"}
+# Those of Python's own methods that this program may call; the rule's list is longer.
+OWN_METHODS = set(
+    "append clear copy count endswith extend find get index insert isalnum isalpha isdigit items join keys lower "
+    "partition pop remove replace reverse rfind setdefault split splitlines startswith strip update upper values "
+    "add discard".split()
+)
 
 
 def files():
     return sorted(PACKAGE.rglob("*.py"))
 
 
+# Read once, so that a node is the same one whoever asks for it.
+TREES = {path: ast.parse(path.read_text()) for path in files()}
+
+
 def nodes(kinds):
     """Each node of such kinds in the package, with the words to find it by."""
     found = []
     for path in files():
-        for node in ast.walk(ast.parse(path.read_text())):
+        for node in ast.walk(TREES[path]):
             if isinstance(node, kinds):
                 found.append((node, f"{path.name}:{getattr(node, 'lineno', 0)}"))
     return found
@@ -51,6 +61,30 @@ def bound_names():
     for node, where in nodes(ast.alias):
         found.append((node.asname or node.name, where))
     return found
+
+
+def methods():
+    """The names of all methods of the package's classes."""
+    return {part.name for node, where in nodes(ast.ClassDef) for part in node.body if isinstance(part, ast.FunctionDef)}
+
+
+def values():
+    """The names of all values that objects of the package are given."""
+    return {node.attr for node, where in nodes(ast.Attribute) if isinstance(node.ctx, ast.Store)}
+
+
+def drawn_files():
+    """For each file of the package the ones it draws from."""
+    found = {}
+    for path in files():
+        rows = [node for node in ast.walk(TREES[path]) if isinstance(node, ast.ImportFrom)]
+        found[path.stem] = {row.module.split(".")[-1] for row in rows}
+    return found
+
+
+def top_names(tree, kinds):
+    """The names of such nodes that stand at a file's top."""
+    return {node.name for node in tree.body if isinstance(node, kinds)}
 
 
 class Language(unittest.TestCase):
@@ -115,6 +149,63 @@ class Language(unittest.TestCase):
         self.assertEqual(given & set(dir(builtins)), set())
         for node, where in nodes(ast.Name):
             self.assertTrue(node.id in given or node.id in OWN_NAMES, f"{node.id} {where}")
+
+    def test_own_methods_and_values_bear_other_names(self):
+        self.assertEqual(methods() & values(), set())
+        self.assertEqual({name for name in methods() if name.startswith("_")} - UNDERSCORED, set())
+
+    def test_what_is_asked_of_things_is_there(self):
+        called = {id(node.func) for node, where in nodes(ast.Call)}
+        for node, where in nodes(ast.Attribute):
+            if id(node) in called:
+                self.assertIn(node.attr, OWN_METHODS | methods(), where)
+            else:
+                self.assertIn(node.attr, values(), where)
+
+    def test_errors_are_made_on_the_spot(self):
+        for node, where in nodes(ast.Raise):
+            self.assertTrue(node.exc is None or isinstance(node.exc.func, ast.Name), where)
+
+    def test_exponents_are_written(self):
+        for node, where in nodes(ast.BinOp):
+            if isinstance(node.op, ast.Pow):
+                self.assertIsInstance(node.right, ast.Constant, where)
+
+    def test_no_two_files_draw_from_one_another(self):
+        left = drawn_files()
+        while left:
+            ready = [name for name in left if not left[name] & set(left)]
+            self.assertNotEqual(ready, [], sorted(left))
+            for name in ready:
+                del left[name]
+
+    def test_names_are_drawn_from_the_file_that_defines_them(self):
+        for node, where in nodes(ast.ImportFrom):
+            tree = TREES[PACKAGE / f"{node.module.split('.')[-1]}.py"]
+            given = top_names(tree, (ast.FunctionDef, ast.ClassDef))
+            given |= {target.id for row in tree.body if isinstance(row, ast.Assign) for target in row.targets}
+            for name in node.names:
+                self.assertIn(name.name, given, where)
+                self.assertIsNone(name.asname, where)
+
+    def test_locals_are_not_called_like_classes_or_drawn_names(self):
+        for path in files():
+            tree = TREES[path]
+            tops = top_names(tree, ast.ClassDef)
+            tops |= {name.name for row in tree.body if isinstance(row, ast.ImportFrom) for name in row.names}
+            for deed in ast.walk(tree):
+                if isinstance(deed, ast.FunctionDef):
+                    given = {part.arg for part in ast.walk(deed) if isinstance(part, ast.arg)}
+                    for part in ast.walk(deed):
+                        if isinstance(part, ast.Name) and isinstance(part.ctx, ast.Store):
+                            given.add(part.id)
+                    self.assertEqual(given & tops, set(), f"{path.name}:{deed.lineno}")
+
+    def test_sets_are_not_walked(self):
+        for node, where in nodes((ast.For, ast.comprehension)):
+            self.assertNotIsInstance(node.iter, (ast.Set, ast.SetComp), where)
+            if isinstance(node.iter, ast.Call) and isinstance(node.iter.func, ast.Name):
+                self.assertNotIn(node.iter.func.id, ("set", "frozenset"), where)
 
 
 if __name__ == "__main__":
