@@ -1,8 +1,15 @@
 """Ways of a walk: where they lead, the sets that none leaves, and the turn of these."""
 
 from fadewalk.errors import NoSet
-from fadewalk.lots import are_rising_places
+from fadewalk.lots import are_rising_places, is_place
 from fadewalk.numbers import greatest_divider
+
+
+def is_way(walk, thing):
+    """Tell whether a thing is a way of the walk."""
+    if not isinstance(thing, tuple) or not thing or not all([is_place(place, len(walk)) for place in thing]):
+        return False
+    return all([walk.rows[thing[at - 1]][thing[at]] > 0 for at in range(1, len(thing))])
 
 
 def next_places(walk):

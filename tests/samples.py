@@ -1,7 +1,10 @@
 """Things of many kinds that tests hand in; not a test itself."""
 
+import itertools
+import math
 import random
 import unittest
+from fractions import Fraction
 
 from fadewalk.walks import Walk
 
@@ -128,6 +131,22 @@ def next_of(walk, place):
     return [other for other in range(len(walk.rows)) if walk.rows[place][other] > 0]
 
 
+def is_shut(walk, places):
+    """Whether no step leads out of the places."""
+    return bool(places) and all(other in places for place in places for other in next_of(walk, place))
+
+
+def all_shut(walk):
+    """The least shut sets, found among all sets of places."""
+    many = len(walk)
+    shut = []
+    for size in range(1, many + 1):
+        for places in itertools.combinations(range(many), size):
+            if is_shut(walk, places) and not any(set(other) <= set(places) for other in shut):
+                shut.append(places)
+    return tuple(sorted(shut))
+
+
 def is_number(thing, low=0, high=None):
     """Whether a thing is an int and no truth, from low on and less than high."""
     return type(thing) is int and thing >= low and (high is None or thing < high)
@@ -138,3 +157,59 @@ def is_rising(thing, many):
     if type(thing) is not tuple or not all(is_number(part, 0, many) for part in thing):
         return False
     return list(thing) == sorted(set(thing))
+
+
+def is_told_way(walk, thing):
+    """Whether a thing is a way, by the words of the document one by one."""
+    if type(thing) is not tuple or not thing or not all(is_number(place, 0, len(walk)) for place in thing):
+        return False
+    return all(walk.rows[x][y] > 0 for x, y in zip(thing, thing[1:]))
+
+
+def are_told_rings(walk, thing):
+    """Whether a thing is rings, by the words of the document one by one."""
+    if type(thing) is not tuple or len(thing) != 2 or type(thing[0]) is not tuple or type(thing[1]) is not tuple:
+        return False
+    if len(thing[0]) != len(thing[1]) or not thing[0]:
+        return False
+    for ring_of_sets in thing:
+        if not all(is_rising(places, len(walk)) and places != () for places in ring_of_sets):
+            return False
+        for places, following in zip(ring_of_sets, ring_of_sets[1:] + ring_of_sets[:1]):
+            if not all(other in following for place in places for other in next_of(walk, place)):
+                return False
+    return all(not set(one) & set(other) for one, other in zip(*thing))
+
+
+def first_common(walk):
+    """The fewest steps after which ways from all starts end in one place, and the first such place, or None."""
+    ends = [{place} for place in range(len(walk))]
+    for steps in range(len(walk) ** 2 + 1):
+        if set.intersection(*ends):
+            return steps, min(set.intersection(*ends))
+        ends = [{other for place in places for other in next_of(walk, place)} for places in ends]
+    return None
+
+
+def distance(one, other):
+    """Half of what the chances of two lots differ, over all places."""
+    return sum(abs(Fraction(a, sum(one)) - Fraction(b, sum(other))) for a, b in zip(one, other)) / 2
+
+
+def brought(one, other):
+    """Both lots brought to one sum, the least."""
+    common = math.lcm(sum(one), sum(other))
+    return [weight * common // sum(one) for weight in one], [weight * common // sum(other) for weight in other]
+
+
+def told_joining(one, other, thing):
+    """Whether a thing is a joining, by the words of the document one by one."""
+    first, second = brought(one, other)
+    if type(thing) is not tuple or len(thing) != len(one):
+        return False
+    for x, row in enumerate(thing):
+        if type(row) is not tuple or len(row) != len(one) or not all(is_number(weight) for weight in row):
+            return False
+        if sum(row) != first[x]:
+            return False
+    return all(sum(row[y] for row in thing) == second[y] for y in range(len(one)))

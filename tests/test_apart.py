@@ -1,6 +1,5 @@
 import copy
 import itertools
-import math
 import random
 import unittest
 from fractions import Fraction
@@ -9,7 +8,8 @@ from fadewalk.apart import apart, farthest, is_joining, is_paper, paper_of
 from fadewalk.errors import NoLot, NoSteps, Unlike
 from fadewalk.walks import Walk
 from samples import (
-    GREAT, Refusals, few_places, great_walks, is_number, is_rising, no_numbers, no_steps, no_tuples, otherwise, ring,
+    GREAT, Refusals, brought, distance, few_places, great_walks, is_rising, no_numbers, no_steps, no_tuples, otherwise,
+    ring, told_joining,
 )
 
 
@@ -35,31 +35,6 @@ def pairs():
 
 def small_pairs():
     return [pair for pair in pairs() if len(pair[0]) <= 3]
-
-
-def brought(one, other):
-    """Both lots brought to one sum, the least."""
-    common = math.lcm(sum(one), sum(other))
-    return [weight * common // sum(one) for weight in one], [weight * common // sum(other) for weight in other]
-
-
-def distance(one, other):
-    """Half of what the chances differ, over all places."""
-    both = zip(one, other)
-    return sum(abs(Fraction(a, sum(one)) - Fraction(b, sum(other))) for a, b in both) / 2
-
-
-def told_joining(one, other, thing):
-    """Whether a thing is a joining, by the words of the document one by one."""
-    first, second = brought(one, other)
-    if type(thing) is not tuple or len(thing) != len(one):
-        return False
-    for x, row in enumerate(thing):
-        if type(row) is not tuple or len(row) != len(one) or not all(is_number(weight) for weight in row):
-            return False
-        if sum(row) != first[x]:
-            return False
-    return all(sum(row[y] for row in thing) == second[y] for y in range(len(one)))
 
 
 def told_paper(one, other, thing):

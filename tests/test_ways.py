@@ -6,7 +6,9 @@ import unittest
 from fadewalk.errors import NoSet
 from fadewalk.walks import Walk
 from fadewalk.ways import led_to, shut_sets, sides_of, turn_of
-from samples import Refusals, few_places, great_walks, next_of, no_numbers, no_tuples, otherwise, ring, slow_ring
+from samples import (
+    Refusals, all_shut, few_places, great_walks, is_shut, next_of, no_numbers, no_tuples, otherwise, ring, slow_ring,
+)
 
 # Two rings, of two places and of three, and places that lead into one and into both.
 RINGS = Walk((
@@ -30,21 +32,6 @@ def all_led(walk):
     return tuple(
         tuple(sorted(set().union(*[steps_lead(walk, start, steps) for steps in range(many)]))) for start in range(many)
     )
-
-
-def is_shut(walk, places):
-    return bool(places) and all(other in places for place in places for other in next_of(walk, place))
-
-
-def all_shut(walk):
-    """The least shut sets, found among all sets of places."""
-    many = len(walk)
-    shut = []
-    for size in range(1, many + 1):
-        for places in itertools.combinations(range(many), size):
-            if is_shut(walk, places) and not any(set(other) <= set(places) for other in shut):
-                shut.append(places)
-    return tuple(sorted(shut))
 
 
 def rounds_divider(walk, shut):
