@@ -126,6 +126,15 @@ class Turns(Refusals):
         self.assertEqual(turn_of(walk, tuple(range(6))), 2)
         self.assertEqual(sides_of(walk, tuple(range(6))), ((0, 2, 4), (1, 3, 5)))
 
+    def test_where_ways_to_a_place_are_of_many_lengths(self):
+        # From 0 one comes to 3 by 4, and by 5 and 1: the turn is reckoned of the shortest ways.
+        walk = Walk((
+            (0, 0, 0, 0, 3, 3), (0, 0, 0, 3, 3, 0), (4, 0, 2, 0, 0, 0), (0, 0, 4, 0, 2, 0), (0, 0, 0, 6, 0, 0),
+            (0, 6, 0, 0, 0, 0),
+        ))
+        self.assertEqual(turn_of(walk, tuple(range(6))), 1)
+        self.assertEqual(sides_of(walk, tuple(range(6))), (tuple(range(6)),))
+
     def test_against_ways_round(self):
         turns = set()
         for walk in few_places() + [RINGS, PAIRS]:
