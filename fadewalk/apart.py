@@ -59,6 +59,24 @@ def least_joining(first, second):
     return tuple([tuple(row) for row in joining])
 
 
+def pairs_of(things):
+    """Tell the pairs of all things, each with those behind it, in order."""
+    return [(things[x], things[y]) for x in range(len(things)) for y in range(x + 1, len(things))]
+
+
+def are_joinings(lots, thing):
+    """Tell whether a thing is a tuple with a joining for each pair of several lots of one sum, in order."""
+    pairs = pairs_of(lots)
+    if not isinstance(thing, tuple) or len(thing) != len(pairs):
+        return False
+    return all([joins(first, second, joining) for (first, second), joining in zip(pairs, thing)])
+
+
+def least_joinings(lots):
+    """Tell for each pair of several lots of one sum, in order, a joining with the least parted."""
+    return tuple([least_joining(first, second) for first, second in pairs_of(lots)])
+
+
 def apart(one, other):
     """Tell how far two lots lie apart."""
     refuse_unlike_lots(one, other)

@@ -1,6 +1,6 @@
 """Whether a walk forgets where it began: by ways that meet in one place, or by rings that never do."""
 
-from fadewalk.lots import are_rising_places, is_place
+from fadewalk.lots import is_place, is_set
 from fadewalk.numbers import is_whole
 from fadewalk.ways import is_way, next_places, shut_sets, sides_of
 
@@ -22,7 +22,7 @@ def is_ring(walk, thing):
     """Tell whether a thing is a tuple of sets of places, each of which all steps leave for the next one."""
     if not isinstance(thing, tuple) or not thing:
         return False
-    if not all([are_rising_places(places, len(walk)) and len(places) > 0 for places in thing]):
+    if not all([is_set(places, len(walk)) for places in thing]):
         return False
     nexts = next_places(walk)
     for at in range(len(thing)):

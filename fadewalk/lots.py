@@ -25,11 +25,21 @@ def is_place(thing, many):
     return is_whole(thing) and 0 <= thing < many
 
 
+def is_rising(things):
+    """Tell whether each thing of a tuple is greater than the one ahead."""
+    return all([things[at - 1] < things[at] for at in range(1, len(things))])
+
+
 def are_rising_places(thing, many):
     """Tell whether a thing is a rising tuple of places, be it empty, where there are so many."""
     if not isinstance(thing, tuple) or not all([is_place(place, many) for place in thing]):
         return False
-    return all([thing[at - 1] < thing[at] for at in range(1, len(thing))])
+    return is_rising(thing)
+
+
+def is_set(thing, many):
+    """Tell whether a thing is a rising tuple of one place and more where there are so many."""
+    return are_rising_places(thing, many) and len(thing) > 0
 
 
 def is_lot(thing):

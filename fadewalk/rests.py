@@ -53,9 +53,13 @@ def rests(walk):
     return tuple([rest_on(walk, shut) for shut in shut_sets(walk)])
 
 
+def refuse_no_rest(walk):
+    """Raise NoRest of a walk that is none of one rest."""
+    if shut_sets(walk) != (tuple(range(len(walk))),):
+        raise NoRest("the set of all places is no least shut one of the walk")
+
+
 def one_rest(walk):
     """Tell the rest of a walk of one rest."""
-    everywhere = tuple(range(len(walk)))
-    if shut_sets(walk) != (everywhere,):
-        raise NoRest("the set of all places is no least shut one of the walk")
-    return rest_on(walk, everywhere)
+    refuse_no_rest(walk)
+    return rest_on(walk, tuple(range(len(walk))))

@@ -1,7 +1,7 @@
 """Walks: rows of weights by which one goes from place to place."""
 
-from fadewalk.errors import BadWalk, NoPlace, NoSteps, Unlike
-from fadewalk.lots import MOST_PLACES, are_rows, is_place, refuse_no_lot
+from fadewalk.errors import BadWalk, NoPlace, NoSet, NoSteps, Unlike
+from fadewalk.lots import MOST_PLACES, are_rows, is_place, is_set, refuse_no_lot
 from fadewalk.numbers import is_whole, plain_of
 
 MOST_STEPS = 100
@@ -25,6 +25,12 @@ def refuse_no_place(walk, thing):
     """Raise NoPlace of what is no place of the walk."""
     if not is_place(thing, len(walk)):
         raise NoPlace(f"a place is a whole number from 0 up, less than {len(walk)}")
+
+
+def refuse_no_set(walk, thing):
+    """Raise NoSet of what is no rising tuple of one place of the walk and more."""
+    if not is_set(thing, len(walk)):
+        raise NoSet("a set is a rising tuple of one place of the walk and more")
 
 
 def lot_at(place, many):

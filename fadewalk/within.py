@@ -1,6 +1,6 @@
 """When all starts of a walk lie within a bound, shown from both sides by a voucher."""
 
-from fadewalk.apart import farthest_of, joins, least_joining, more_in, parted, places_of_more
+from fadewalk.apart import are_joinings, farthest_of, least_joinings, more_in, parted, places_of_more
 from fadewalk.errors import NoBound
 from fadewalk.forgetting import forgets
 from fadewalk.lots import are_rising_places, is_place
@@ -14,11 +14,6 @@ def refuse_no_bound(thing):
         raise NoBound("a bound is a fraction from 0 up, less than 1")
 
 
-def pairs_of(lots):
-    """Tell the pairs of lots of all places x below y, in order."""
-    return [(lots[x], lots[y]) for x in range(len(lots)) for y in range(x + 1, len(lots))]
-
-
 def is_beyond(bound, part, lot):
     """Tell whether a part of a lot's sum is more than the bound of it."""
     return part * bound[1] > bound[0] * sum(lot)
@@ -26,13 +21,9 @@ def is_beyond(bound, part, lot):
 
 def show_near(lots, bound, thing):
     """Tell whether a thing is joinings of all pairs of lots, none with more parted than the bound of the sum."""
-    pairs = pairs_of(lots)
-    if not isinstance(thing, tuple) or len(thing) != len(pairs):
+    if not are_joinings(lots, thing):
         return False
-    for (first, second), joining in zip(pairs, thing):
-        if not joins(first, second, joining) or is_beyond(bound, parted(joining), first):
-            return False
-    return True
+    return not any([is_beyond(bound, parted(joining), lots[0]) for joining in thing])
 
 
 def show_far(lots, bound, thing):
@@ -67,8 +58,7 @@ def first_within(walk, bound, *, most=60):
     for steps in range(most + 1):
         gap, place, other = farthest_of(lots)
         if not is_less(bound, gap):
-            joinings = tuple([least_joining(first, second) for first, second in pairs_of(lots)])
-            return ("at", steps, (joinings,) + far)
+            return ("at", steps, (least_joinings(lots),) + far)
         far = (place, other, places_of_more(lots[place], lots[other]))
         lots = [stepped(walk.rows, lot) for lot in lots]
     return ("later",) + far

@@ -213,3 +213,94 @@ def told_joining(one, other, thing):
         if sum(row) != first[x]:
             return False
     return all(sum(row[y] for row in thing) == second[y] for y in range(len(one)))
+
+
+def of_one_rest(walk):
+    """Whether the set of all places is a least shut one."""
+    return all_shut(walk) == (tuple(range(len(walk))),)
+
+
+def solved(rows):
+    """What solves rows of fractions, as many unknowns as rows, whatever stands behind them solved for at once."""
+    rows = [list(row) for row in rows]
+    many = len(rows)
+    for at in range(many):
+        pivot = next(row for row in range(at, many) if rows[row][at])
+        rows[at], rows[pivot] = rows[pivot], rows[at]
+        rows[at] = [part / rows[at][at] for part in rows[at]]
+        for row in range(many):
+            if row != at:
+                rows[row] = [part - rows[row][at] * own for part, own in zip(rows[row], rows[at])]
+    return [row[many:] for row in rows]
+
+
+def solved_rest(walk, shut):
+    """The rest on a set, by solving with fractions: what comes to each place is what is there, all together 1."""
+    many = len(shut)
+    rows = [[Fraction(walk.rows[x][y] - (walk.whole if x == y else 0)) for x in shut] + [Fraction(0)] for y in shut]
+    rows[-1] = [Fraction(1)] * (many + 1)
+    chances = [row[0] for row in solved(rows)]
+    common = math.lcm(*[chance.denominator for chance in chances])
+    weights = dict(zip(shut, [int(chance * common) for chance in chances]))
+    divider = math.gcd(*weights.values())
+    return tuple(weights.get(place, 0) // divider for place in range(len(walk)))
+
+
+def corner_joining(one, other, order):
+    """The joining filled by columns in some order, mostly not of the least parted."""
+    first, second = brought(one, other)
+    rows = [[0] * len(one) for place in one]
+    for x in range(len(one)):
+        for y in order:
+            rows[x][y] = min(first[x] - sum(rows[x]), second[y] - sum(row[y] for row in rows))
+    return tuple(tuple(row) for row in rows)
+
+
+def of_rest():
+    """Walks of one rest, of one to six places, of many shapes."""
+    walks = [walk for walk in few_places() if of_one_rest(walk)]
+    for many in range(2, 7):
+        walks += [walk for walk in walks_of(many, 4, most=many, whole=12, seed=5) if of_one_rest(walk)]
+    return walks
+
+
+def of_no_rest():
+    """Walks that are not of one rest: of several least shut sets, or of one that isn't all places."""
+    return [walk for walk in few_places() if not of_one_rest(walk)] + [great_walks()[3]]
+
+
+def rest_chances(walk):
+    """The chances of the rest of a walk of one rest."""
+    rest = solved_rest(walk, tuple(range(len(walk))))
+    return [Fraction(weight, sum(rest)) for weight in rest]
+
+
+def step_on(walk, chances):
+    """The chances one step later."""
+    places = range(len(walk))
+    return [sum(chances[x] * Fraction(walk.rows[x][y], walk.whole) for x in places) for y in places]
+
+
+def start_chances(walk, start, steps):
+    """The chances of all places after so many steps from a start, gone on step by step."""
+    chances = [Fraction(int(place == start)) for place in range(len(walk))]
+    for step in range(steps):
+        chances = step_on(walk, chances)
+    return chances
+
+
+def sets_of_places(many):
+    """All rising tuples of one place and more."""
+    return [places for size in range(1, many + 1) for places in itertools.combinations(range(many), size)]
+
+
+def no_sets(many):
+    """Things that are no rising tuple of one place and more where there are so many, made anew for each asker."""
+    things = no_tuples() + [(), (-1,), (many,), (0, many), (0, 0), ((0,),), (0, (1,)), (1, 0), (0,) * 39999]
+    things += [(many - 1, 0, 0), (GREAT,), (0, -1), (None,), (False,), (True,), deep_list(12), ("0",), ([0],), ({},)]
+    return things + [(thing,) for thing in no_numbers()] + [(0, thing) for thing in no_numbers()]
+
+
+def as_pair(fraction):
+    """A fraction as this program tells it."""
+    return (fraction.numerator, fraction.denominator)

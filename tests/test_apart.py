@@ -8,8 +8,8 @@ from fadewalk.apart import apart, farthest, is_joining, is_paper, paper_of
 from fadewalk.errors import NoLot, NoSteps, Unlike
 from fadewalk.walks import Walk
 from samples import (
-    GREAT, Refusals, brought, distance, few_places, great_walks, is_rising, no_numbers, no_steps, no_tuples, otherwise,
-    ring, told_joining,
+    GREAT, Refusals, brought, corner_joining, distance, few_places, great_walks, is_rising, no_numbers, no_steps,
+    no_tuples, otherwise, ring, told_joining,
 )
 
 
@@ -46,16 +46,6 @@ def told_paper(one, other, thing):
     first, second = brought(one, other)
     parted = sum(weight for x, row in enumerate(thing[1]) for y, weight in enumerate(row) if x != y)
     return sum(first[place] for place in thing[0]) - sum(second[place] for place in thing[0]) == parted
-
-
-def corner_joining(one, other, order):
-    """The joining filled by columns in some order, mostly not of the least parted."""
-    first, second = brought(one, other)
-    rows = [[0] * len(one) for place in one]
-    for x in range(len(one)):
-        for y in order:
-            rows[x][y] = min(first[x] - sum(rows[x]), second[y] - sum(row[y] for row in rows))
-    return tuple(tuple(row) for row in rows)
 
 
 def sets(many):

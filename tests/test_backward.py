@@ -10,8 +10,8 @@ from fadewalk.making import folded, lazy, plainest
 from fadewalk.rests import one_rest
 from fadewalk.walks import Walk
 from samples import (
-    GREAT, Refusals, all_shut, deep_list, few_places, great_walks, is_number, no_numbers, no_tuples, otherwise, ring,
-    walks_of,
+    GREAT, Refusals, deep_list, few_places, great_walks, is_number, no_numbers, no_tuples, of_one_rest, otherwise,
+    ring, walks_of,
 )
 
 HALF = Walk(((1, 1), (0, 2)))
@@ -41,10 +41,6 @@ def looks_so(walk, rest):
     """Whether for all places as much goes from one to the other as back."""
     many = range(len(walk))
     return all(rest[x] * walk.rows[x][y] == rest[y] * walk.rows[y][x] for x in many for y in many)
-
-
-def of_one_rest(walk):
-    return all_shut(walk) == (tuple(range(len(walk))),)
 
 
 def balanced(many, seed):

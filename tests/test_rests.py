@@ -10,7 +10,7 @@ from fadewalk.rests import is_rest, one_rest, rests, trees_toward
 from fadewalk.walks import Walk
 from samples import (
     GREAT, Refusals, all_shut, few_places, great_walks, is_number, next_of, no_numbers, no_places, no_tuples,
-    otherwise, ring, walks_of,
+    otherwise, ring, solved_rest, walks_of,
 )
 
 HALF = Walk(((1, 1), (0, 2)))
@@ -27,25 +27,6 @@ def is_told_rest(walk, thing):
         return False
     step = [sum(thing[x] * walk.rows[x][y] for x in range(len(walk))) for y in range(len(walk))]
     return [Fraction(weight, sum(thing)) for weight in thing] == [Fraction(weight, sum(step)) for weight in step]
-
-
-def solved_rest(walk, shut):
-    """The rest on a set, by solving with fractions: what comes to each place is what is there, all together 1."""
-    many = len(shut)
-    rows = [[Fraction(walk.rows[x][y] - (walk.whole if x == y else 0)) for x in shut] + [Fraction(0)] for y in shut]
-    rows[-1] = [Fraction(1)] * (many + 1)
-    for at in range(many):
-        pivot = next(row for row in range(at, many) if rows[row][at])
-        rows[at], rows[pivot] = rows[pivot], rows[at]
-        rows[at] = [part / rows[at][at] for part in rows[at]]
-        for row in range(many):
-            if row != at:
-                rows[row] = [part - rows[row][at] * own for part, own in zip(rows[row], rows[at])]
-    chances = [row[-1] for row in rows]
-    common = math.lcm(*[chance.denominator for chance in chances])
-    weights = dict(zip(shut, [int(chance * common) for chance in chances]))
-    divider = math.gcd(*weights.values())
-    return tuple(weights.get(place, 0) // divider for place in range(len(walk)))
 
 
 def trees_one_by_one(walk, place):
