@@ -82,6 +82,25 @@ def drawn_files():
     return found
 
 
+def above():
+    """For each node of the package the one that it stands in."""
+    return {id(part): node for tree in TREES.values() for node in ast.walk(tree) for part in ast.iter_child_nodes(node)}
+
+
+def own_defs():
+    """The defs of the files' tops, by name; no two files have one of the same name."""
+    return {node.name: node for tree in TREES.values() for node in tree.body if isinstance(node, ast.FunctionDef)}
+
+
+def is_lazy(node):
+    """Whether a node is a call whose answer is to be walked on the spot."""
+    if not isinstance(node, ast.Call):
+        return False
+    if isinstance(node.func, ast.Name):
+        return node.func.id in ("zip", "enumerate", "reversed", "range")
+    return isinstance(node.func, ast.Attribute) and node.func.attr in ("items", "keys", "values")
+
+
 def top_names(tree, kinds):
     """The names of such nodes that stand at a file's top."""
     return {node.name for node in tree.body if isinstance(node, kinds)}
@@ -200,6 +219,62 @@ class Language(unittest.TestCase):
                         if isinstance(part, ast.Name) and isinstance(part.ctx, ast.Store):
                             given.add(part.id)
                     self.assertEqual(given & tops, set(), f"{path.name}:{deed.lineno}")
+
+    def test_what_is_walked_at_once_is_not_kept(self):
+        parents = above()
+        walkers = "list tuple dict sorted sum any all enumerate zip min max".split()
+        for node, where in nodes(ast.Call):
+            if is_lazy(node):
+                parent = parents[id(node)]
+                if isinstance(parent, (ast.For, ast.comprehension)):
+                    self.assertIs(parent.iter, node, where)
+                else:
+                    self.assertIsInstance(parent, ast.Call, where)
+                    reversed_range = parent.func.id == "reversed" and node.func.id == "range"
+                    self.assertTrue(parent.func.id in walkers or reversed_range, where)
+
+    def test_classes_are_not_handed_on(self):
+        parents = above()
+        classes = {node.name for node, where in nodes(ast.ClassDef)}
+        for node, where in nodes(ast.Name):
+            if node.id in classes:
+                parent = parents[id(node)]
+                if isinstance(parent, ast.Call) and parent.func is not node:
+                    self.assertEqual((parent.func.id, parent.args.index(node)), ("isinstance", 1), where)
+                else:
+                    self.assertIsInstance(parent, (ast.Call, ast.ClassDef, ast.ExceptHandler, ast.Attribute), where)
+
+    def test_methods_with_two_underscores_end_as_told(self):
+        for node, where in nodes(ast.FunctionDef):
+            told = [part.value for part in ast.walk(node) if isinstance(part, ast.Return)]
+            if node.name == "__init__":
+                self.assertEqual(told, [], where)
+            elif node.name == "__len__":
+                self.assertTrue(told and all(part.func.id == "len" for part in told), where)
+            elif node.name in ("__repr__", "__str__"):
+                for part in told:
+                    self.assertTrue(isinstance(part, ast.JoinedStr) or part.func.id in ("str", "repr"), where)
+            if node.name in UNDERSCORED - {"__init__"}:
+                self.assertIsInstance(node.body[-1], ast.Return, where)
+
+    def test_own_defs_are_handed_what_they_take(self):
+        defs = own_defs()
+        for node, where in nodes(ast.Call):
+            if isinstance(node.func, ast.Name) and node.func.id in defs:
+                takes = defs[node.func.id].args
+                by_place = [part.arg for part in takes.args]
+                by_name = [part.arg for part in takes.kwonlyargs]
+                given = by_place[:len(node.args)] + [part.arg for part in node.keywords]
+                self.assertLessEqual(len(node.args), len(by_place), where)
+                self.assertEqual(len(set(given)), len(given), where)
+                self.assertLessEqual(set(given), set(by_place + by_name), where)
+                wanted = by_place[:len(by_place) - len(takes.defaults)]
+                wanted += [name for name, part in zip(by_name, takes.kw_defaults) if part is None]
+                self.assertLessEqual(set(wanted), set(given), where)
+
+    def test_one_helper_a_package(self):
+        names = [node.name for tree in TREES.values() for node in tree.body if isinstance(node, ast.FunctionDef)]
+        self.assertEqual(len(names), len(set(names)), sorted(names))
 
     def test_sets_are_not_walked(self):
         for node, where in nodes((ast.For, ast.comprehension)):
